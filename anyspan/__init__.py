@@ -1,0 +1,1 @@
+"""Anyspan: rows of which any so many places hold so many marks."""
