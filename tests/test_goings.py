@@ -233,7 +233,7 @@ class Parted(unittest.TestCase):
         self.assertIs(alike(((1, 0, 1),), ((8, 0, 7),)), False)
 
     def test_rules_that_are_kept_by_the_same_long_rows_alone_are_apart(self):
-        # No row of 13 places keeps either, but shorter ones part them.
+        # No row of two places keeps either lot of the first pair, but shorter ones part them.
         self.assertEqual(parted(((1, 0, 0), (2, 1, 2)), ((1, 1, 1), (2, 0, 1))), (0,))
         self.assertEqual(parted(((1, 1, 1),), ((2, 2, 2),)), (0,))
 
