@@ -1,5 +1,6 @@
 """What the tests hold the program against: the document's words, by plain counting over all rows."""
 
+from fractions import Fraction
 from functools import lru_cache
 from itertools import combinations, product
 
@@ -42,6 +43,35 @@ NO_ROWS = [
     [], [0], [1, 0], (0,) * 121, (1,) * 400, (2,), (0, 1, -1), (0, 2, 1), (1, 0, 10 ** 39), (True,), (False,),
     (0, 1, True), (False, 0, 1), (None,), (0, None), ("1",), ("0", "1"), "", "01", ((0,),), ((),), ([0],), None, True,
     False, 0, 1,
+]
+
+# Tuples and lists that look like told rows but are none.
+NO_TOLD = [
+    [], [None], [0, None, 1], (None,) * 121, (0,) * 121, (None,) * 400, (2,), (-1,), (None, 2), (0, 1, -1),
+    (None, 10 ** 39), (True,), (False,), (None, True), (0, False, None), ("0",), ("None",), ("",), (None, ""), "",
+    "01", " ", ((None,),), ((),), ([None],), (None, (0,)), (0, [1]), None, True, False, 0, 1,
+]
+
+# Things that are no fractions from 0 to 1.
+NO_PARTS = [
+    # with a common divisor
+    (2, 4), (0, 2), (0, 10 ** 40), (3, 3), (2, 2), (5, 10), (10 ** 39, 10 ** 40), (10 ** 40, 10 ** 40),
+    (6, 9), (3 * 7919, 5 * 7919),
+    # the bottom beyond its limits
+    (0, 0), (1, 0), (0, -1), (-1, -2), (-1, -1), (1, 10 ** 40 + 1), (10 ** 40, 10 ** 40 + 1), (10 ** 39, 10 ** 41 + 1),
+    (1, 10 ** 41),
+    # above 1, below 0
+    (2, 1), (3, 2), (10 ** 40, 10 ** 40 - 1), (10 ** 40, 1), (-1, 1), (-1, 2), (1, -2), (-1, 10 ** 40),
+    # lists, truths, other things and lengths
+    [0, 1], [1, 2], [], (), (0,), (1,), (1, 2, 3), (0, 1, 1), ((0, 1),), ((0, 1), (1, 1)), (True, 1), (1, True),
+    (False, 1), (0, True), (True, 2), (True, True), (False, True), (None, 1), (0, None), ("0", 1), (1, "2"), ("1", "2"),
+    "01", "1/2", "", 0, 1, True, False, None, -1, 10 ** 39, ([0], 1), (0, [1]), ((0,), (1,)),
+]
+
+# Things that are no numbers from 0 to 120.
+NO_NUMBERS = [
+    -1, 121, 122, -120, 10 ** 39, -(10 ** 39), True, False, None, "", "0", "5", "text", [], [5], (), (5,), (0, 1), [[]],
+    DEEP,
 ]
 
 
@@ -121,3 +151,77 @@ def exchanged(rules):
 def flipped(row):
     """Row with marks and bare places exchanged."""
     return tuple(1 - place for place in row)
+
+
+def share(number, span):
+    """This number by this span."""
+    return Fraction(number, span)
+
+
+def told_as(number):
+    """A fraction as the document tells it."""
+    return (number.numerator, number.denominator)
+
+
+def common_parts(rules):
+    """The least and the greatest number in the parts of all rules."""
+    low = max(share(least, span) for span, least, most in rules)
+    high = min(share(most, span) for span, least, most in rules)
+    return (told_as(low), told_as(high)) if low <= high else None
+
+
+def clashes(rules):
+    """All pairs of rules that clash, in order."""
+    return sorted(
+        (one, other) for one in rules for other in rules
+        if share(one[1], one[0]) > share(other[2], other[0])
+    )
+
+
+def longest_rows(rules):
+    """All of the longest rows, None where rows go on for ever; all rows, place by place, till there are none."""
+    if how_far(rules, ()) is None:
+        return None
+    rows = [()]
+    while True:
+        longer = [row + (place,) for row in rows for place in (0, 1) if does_keep(rules, row + (place,))]
+        if not longer:
+            return rows
+        rows = longer
+
+
+def told_rows(length):
+    """All told rows of this length."""
+    return list(product((0, 1, None), repeat=length))
+
+
+def all_fillings(rules, told):
+    """All fillings of a told row, in order."""
+    choices = [(0, 1) if part is None else (part,) for part in told]
+    return [row for row in product(*choices) if does_keep(rules, row)]
+
+
+def what_step_gains(rules, told, here, there):
+    """What one step gains, None where there is none; by the document's words."""
+    ways = []
+    for span, least, most in rules:
+        if there == here + span:
+            ways.append(least)
+        if there == here - span:
+            ways.append(-most)
+    if there == here + 1:
+        ways.append(1 if told[here] == 1 else 0)
+    if there == here - 1:
+        ways.append(0 if told[there] == 0 else -1)
+    return max(ways) if ways else None
+
+
+def what_gains(rules, told, seams):
+    """What a list of seams gains, all of them in range, None where one step is none."""
+    total = 0
+    for here, there in zip(seams, seams[1:]):
+        gained = what_step_gains(rules, told, here, there)
+        if gained is None:
+            return None
+        total += gained
+    return total

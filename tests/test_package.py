@@ -10,6 +10,15 @@ FOLDER = pathlib.Path(__file__).resolve().parent.parent / "anyspan"
 
 FUNCTIONS = {
     "rules": {"are_rules": ["thing"], "is_row": ["thing"], "keeps": ["rules", "row"]},
+    "parts": {
+        "parts": ["rules"], "even_row": ["part", "many"], "clash": ["rules"],
+        "longest": ["rules"], "longest_row": ["rules"],
+    },
+    "fillings": {"filling": ["rules", "told"], "how_many": ["rules", "told"]},
+    "chains": {
+        "chain": ["rules", "told"], "gain": ["rules", "told", "thing"],
+        "marks": ["rules", "told"], "mark_chains": ["rules", "told"],
+    },
     "goings": {
         "goes_on": ["rules", "row"], "nexts": ["rules", "row"],
         "alike": ["one", "other"], "parted": ["one", "other"],
@@ -19,6 +28,11 @@ CLASSES = {
     "errors": [
         "SpanError", "NoRules", "NoRow", "NoTold", "NoPart", "NoNumber", "NoPlace", "Full", "NoneLeft", "Breaks",
     ],
+    "laid": ["Laid"],
+}
+METHODS = {
+    "__init__": ["self", "rules"], "lay": ["self", "place"], "take": ["self"], "row": ["self"], "marked": ["self"],
+    "goes_on": ["self"], "can_be_laid": ["self"], "__len__": ["self"], "__eq__": ["self", "other"],
 }
 BUILTINS = set(
     "len range enumerate zip min max sum abs sorted reversed int str bool list tuple dict set isinstance ord repr "
@@ -49,6 +63,12 @@ class Interface(unittest.TestCase):
         for module, classes in CLASSES.items():
             defined = [node.name for node in trees[module].body if isinstance(node, ast.ClassDef)]
             self.assertEqual(sorted(defined), sorted(classes))
+
+    def test_methods(self):
+        laid = [node for node in parsed()["laid"].body if isinstance(node, ast.ClassDef)][0]
+        defined = {node.name: node for node in laid.body if isinstance(node, ast.FunctionDef)}
+        for name, wanted in METHODS.items():
+            self.assertEqual([part.arg for part in defined[name].args.args], wanted)
 
 
 class Language(unittest.TestCase):
